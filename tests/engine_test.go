@@ -28,6 +28,11 @@ func loaded() impl.Engine {
 	return runLoad(runOwn(newEngine(), 1, 2, 3), 1, 2, 4, 5, 6)
 }
 
+// toLoad is an engine with an empty page that transaction 1 has allocated, and so can load.
+func toLoad() impl.Engine {
+	return runOwn(filled(), 1, 3, 2)
+}
+
 // editedEngine is an engine with a change, in memory of its own.
 func editedEngine(e impl.Engine, edit func(e *impl.Engine)) impl.Engine {
 	e = copyOf(e)
@@ -842,11 +847,12 @@ var engineCalls = map[string]func(e impl.Engine) impl.Engine{
 	"EngineRedo":  func(e impl.Engine) impl.Engine { return impl.Engine{Disk: impl.EngineRedo(e)} },
 	"ChangePut":   func(e impl.Engine) impl.Engine { f, _ := impl.ChangePut(e, 2, 2, 1, 3); return f },
 	"ChangeOwn":   func(e impl.Engine) impl.Engine { f, _ := impl.ChangeOwn(e, 2, 4, 3); return f },
+	"ChangeLoad":  func(e impl.Engine) impl.Engine { f, _ := impl.ChangeLoad(e, 1, 3, []int{1, 2, 3}); return f },
 	"refused":     func(e impl.Engine) impl.Engine { f, _ := impl.ChangePut(e, 2, 1, 1, 3); return f },
 }
 
 func TestEnginesStayUnchanged(t *testing.T) {
-	for _, e := range []impl.Engine{newEngine(), filled(), loaded(), runFall(filled(), 0), {}, safeAs(filled(), 99)} {
+	for _, e := range []impl.Engine{newEngine(), filled(), loaded(), toLoad(), runFall(filled(), 0), {}, safeAs(filled(), 99)} {
 		argument := roomy(e)
 		for name, call := range engineCalls {
 			call(argument)
@@ -866,7 +872,7 @@ func TestEnginesStayUnchanged(t *testing.T) {
 }
 
 func TestEngineResultsShareNoMemory(t *testing.T) {
-	for _, e := range []impl.Engine{newEngine(), filled(), loaded()} {
+	for _, e := range []impl.Engine{newEngine(), filled(), loaded(), toLoad()} {
 		for name, call := range engineCalls {
 			argument := roomy(e)
 			one, other := call(argument), call(argument)
@@ -890,6 +896,9 @@ func TestEngineResultsShareNoMemory(t *testing.T) {
 func TestPagesOfEnginesShareNoMemory(t *testing.T) {
 	for name, call := range engineCalls {
 		result := call(filled())
+		if name == "ChangeLoad" {
+			result = call(toLoad())
+		}
 		var pages []impl.Page
 		pages = append(append(pages, result.Disk...), result.Mem...)
 		for n, p := range pages {

@@ -186,12 +186,15 @@ func isEngine(e impl.Engine) bool {
 	return true
 }
 
-// appended is an engine with one more record, and with that record applied to its page in memory.
+// appended is an engine with one more record, and with that record applied to its page in memory, if that gives a valid page.
 func appended(e impl.Engine, r impl.Rec) impl.Engine {
 	e = copyOf(e)
 	e.Log = with(e.Log, r)
-	if changes(r) {
-		e.Mem[r.Page], _ = changed(e.Mem[r.Page], r, len(e.Log))
+	if !changes(r) {
+		return e
+	}
+	if p, ok := changed(e.Mem[r.Page], r, len(e.Log)); ok {
+		e.Mem[r.Page] = p
 	}
 	return e
 }
@@ -278,6 +281,13 @@ func runStep(e impl.Engine, tx int) impl.Engine {
 		return appended(e, backIn(e.Log, undos[0]))
 	}
 	return appended(e, rec(impl.RecEnd, tx, 0, 0, 0, 0, 0, 0))
+}
+
+func runUndo(e impl.Engine, tx int) impl.Engine {
+	for !e.Down && lastIn(e.Log, tx) != 0 {
+		e = runStep(e, tx)
+	}
+	return e
 }
 
 func runFall(e impl.Engine, left int) impl.Engine {

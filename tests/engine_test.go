@@ -849,6 +849,13 @@ var engineCalls = map[string]func(e impl.Engine) impl.Engine{
 	"ChangeOwn":   func(e impl.Engine) impl.Engine { f, _ := impl.ChangeOwn(e, 2, 4, 3); return f },
 	"ChangeLoad":  func(e impl.Engine) impl.Engine { f, _ := impl.ChangeLoad(e, 1, 3, []int{1, 2, 3}); return f },
 	"refused":     func(e impl.Engine) impl.Engine { f, _ := impl.ChangePut(e, 2, 1, 1, 3); return f },
+	"EndDone":     func(e impl.Engine) impl.Engine { f, _ := impl.EndDone(e, 2); return f },
+	"EndDone 1":   func(e impl.Engine) impl.Engine { f, _ := impl.EndDone(e, 1); return f },
+	"EndStep":     func(e impl.Engine) impl.Engine { f, _ := impl.EndStep(e, 2); return f },
+	"EndStep 1":   func(e impl.Engine) impl.Engine { f, _ := impl.EndStep(e, 1); return f },
+	"EndUndo":     func(e impl.Engine) impl.Engine { f, _ := impl.EndUndo(e, 2); return f },
+	"EndUndo 1":   func(e impl.Engine) impl.Engine { f, _ := impl.EndUndo(e, 1); return f },
+	"not open":    func(e impl.Engine) impl.Engine { f, _ := impl.EndUndo(e, 4); return f },
 }
 
 func TestEnginesStayUnchanged(t *testing.T) {
@@ -865,6 +872,7 @@ func TestEnginesStayUnchanged(t *testing.T) {
 		impl.EngineSum(argument, 1)
 		impl.EngineDirty(argument)
 		impl.ChangeMay(argument, 1, 1)
+		impl.EndLoads(argument, 1)
 		if !sameEngine(argument, e) || !marked(argument) {
 			t.Fatalf("an argument was modified: %v, was %v", argument, e)
 		}

@@ -989,9 +989,8 @@ func TestEndsOfEditedEngines(t *testing.T) {
 	checkCount(t, checked, 1000)
 }
 
-// All three are what the document says, of all short logs, on free pages and on allocated ones.
-func TestEndsOfShortLogs(t *testing.T) {
-	checked := 0
+// shortEngines gives valid engines with all short logs, on free pages and on allocated ones.
+func shortEngines(yield func(impl.Engine) bool) {
 	allocated := newPages(nil)
 	for number := range allocated {
 		allocated[number] = page(0, 2, 3, 4, 0)
@@ -1005,13 +1004,20 @@ func TestEndsOfShortLogs(t *testing.T) {
 					e.Mem[r.Page].Lsn = max(e.Mem[r.Page].Lsn, i+1)
 				}
 			}
-			if !ok || !impl.EngineOk(e) {
-				continue
+			if ok && impl.EngineOk(e) && !yield(copyOf(e)) {
+				return
 			}
-			for tx := 1; tx <= 3; tx++ {
-				checkEnds(t, "short", e, tx)
-				checked++
-			}
+		}
+	}
+}
+
+// All three are what the document says, of all short logs.
+func TestEndsOfShortLogs(t *testing.T) {
+	checked := 0
+	for e := range shortEngines {
+		for tx := 1; tx <= 3; tx++ {
+			checkEnds(t, "short", e, tx)
+			checked++
 		}
 	}
 	checkCount(t, checked, 1000)

@@ -297,18 +297,35 @@ func runFall(e impl.Engine, left int) impl.Engine {
 	return e
 }
 
-func runRise(e impl.Engine) impl.Engine {
+// smallestOpenIn is the smallest open transaction, or 0.
+func smallestOpenIn(l []impl.Rec) int {
+	for tx := 1; tx <= 3; tx++ {
+		if lastIn(l, tx) != 0 {
+			return tx
+		}
+	}
+	return 0
+}
+
+// runRiseBy is a recovery in at most so many steps, and whether the engine runs afterwards because of that.
+func runRiseBy(e impl.Engine, steps int) (impl.Engine, bool) {
 	if !e.Down {
-		return e
+		return e, false
 	}
 	e = copyOf(e)
 	e.Mem, _ = redoneIn(e.Disk, e.Log)
 	e.Down = false
-	for tx := 1; tx <= 3; tx++ {
-		for lastIn(e.Log, tx) != 0 {
-			e = runStep(e, tx)
-		}
+	for ; steps > 0 && smallestOpenIn(e.Log) != 0; steps-- {
+		e = runStep(e, smallestOpenIn(e.Log))
 	}
+	if smallestOpenIn(e.Log) != 0 {
+		return runFall(e, 150), false
+	}
+	return e, true
+}
+
+func runRise(e impl.Engine) impl.Engine {
+	e, _ = runRiseBy(e, 150)
 	return e
 }
 

@@ -856,10 +856,15 @@ var engineCalls = map[string]func(e impl.Engine) impl.Engine{
 	"EndUndo":     func(e impl.Engine) impl.Engine { f, _ := impl.EndUndo(e, 2); return f },
 	"EndUndo 1":   func(e impl.Engine) impl.Engine { f, _ := impl.EndUndo(e, 1); return f },
 	"not open":    func(e impl.Engine) impl.Engine { f, _ := impl.EndUndo(e, 4); return f },
+	"RiseFall":    func(e impl.Engine) impl.Engine { f, _ := impl.RiseFall(e, 8); return f },
+	"RiseFall 99": func(e impl.Engine) impl.Engine { f, _ := impl.RiseFall(e, 99); return f },
+	"RiseUp":      func(e impl.Engine) impl.Engine { f, _ := impl.RiseUp(e, 99); return f },
+	"RiseUp 1":    func(e impl.Engine) impl.Engine { f, _ := impl.RiseUp(e, 1); return f },
+	"RiseUp 0":    func(e impl.Engine) impl.Engine { f, _ := impl.RiseUp(e, 0); return f },
 }
 
 func TestEnginesStayUnchanged(t *testing.T) {
-	for _, e := range []impl.Engine{newEngine(), filled(), loaded(), toLoad(), runFall(filled(), 0), {}, safeAs(filled(), 99)} {
+	for _, e := range []impl.Engine{newEngine(), filled(), loaded(), toLoad(), runFall(filled(), 0), runFall(filled(), 99), {}, safeAs(filled(), 99)} {
 		argument := roomy(e)
 		for name, call := range engineCalls {
 			call(argument)
@@ -873,6 +878,7 @@ func TestEnginesStayUnchanged(t *testing.T) {
 		impl.EngineDirty(argument)
 		impl.ChangeMay(argument, 1, 1)
 		impl.EndLoads(argument, 1)
+		impl.RiseNeed(argument)
 		if !sameEngine(argument, e) || !marked(argument) {
 			t.Fatalf("an argument was modified: %v, was %v", argument, e)
 		}
@@ -880,7 +886,7 @@ func TestEnginesStayUnchanged(t *testing.T) {
 }
 
 func TestEngineResultsShareNoMemory(t *testing.T) {
-	for _, e := range []impl.Engine{newEngine(), filled(), loaded(), toLoad()} {
+	for _, e := range []impl.Engine{newEngine(), filled(), loaded(), toLoad(), runFall(newEngine(), 0), runFall(filled(), 99), runFall(runDone(filled(), 2), 0)} {
 		for name, call := range engineCalls {
 			argument := roomy(e)
 			one, other := call(argument), call(argument)
@@ -903,20 +909,19 @@ func TestEngineResultsShareNoMemory(t *testing.T) {
 // No page of a result shares memory with another one of it, in memory or on disk.
 func TestPagesOfEnginesShareNoMemory(t *testing.T) {
 	for name, call := range engineCalls {
-		result := call(filled())
-		if name == "ChangeLoad" {
-			result = call(toLoad())
-		}
-		var pages []impl.Page
-		pages = append(append(pages, result.Disk...), result.Mem...)
-		for n, p := range pages {
-			before := copyPages(pages)
-			for slot := range p.Vals[:cap(p.Vals)] {
-				p.Vals[:cap(p.Vals)][slot] = 88
-			}
-			for other := range pages {
-				if other != n && !samePage(pages[other], before[other]) {
-					t.Errorf("%s: pages %d and %d share memory", name, n, other)
+		for _, e := range []impl.Engine{filled(), toLoad(), runFall(filled(), 99)} {
+			result := call(e)
+			var pages []impl.Page
+			pages = append(append(pages, result.Disk...), result.Mem...)
+			for n, p := range pages {
+				before := copyPages(pages)
+				for slot := range p.Vals[:cap(p.Vals)] {
+					p.Vals[:cap(p.Vals)][slot] = 88
+				}
+				for other := range pages {
+					if other != n && !samePage(pages[other], before[other]) {
+						t.Errorf("%s: pages %d and %d share memory", name, n, other)
+					}
 				}
 			}
 		}

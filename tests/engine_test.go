@@ -861,6 +861,21 @@ var engineCalls = map[string]func(e impl.Engine) impl.Engine{
 	"RiseUp":      func(e impl.Engine) impl.Engine { f, _ := impl.RiseUp(e, 99); return f },
 	"RiseUp 1":    func(e impl.Engine) impl.Engine { f, _ := impl.RiseUp(e, 1); return f },
 	"RiseUp 0":    func(e impl.Engine) impl.Engine { f, _ := impl.RiseUp(e, 0); return f },
+	"EvPut":       func(e impl.Engine) impl.Engine { return do(e, "put 2 2 1 3") },
+	"EvOwn":       func(e impl.Engine) impl.Engine { return do(e, "own 2 4 3") },
+	"EvLoad":      func(e impl.Engine) impl.Engine { return do(e, "load 1 3 1 2 3") },
+	"EvDone":      func(e impl.Engine) impl.Engine { return do(e, "done 1") },
+	"EvUndo":      func(e impl.Engine) impl.Engine { return do(e, "undo 2") },
+	"EvWrite":     func(e impl.Engine) impl.Engine { return do(e, "write 2") },
+	"EvWrite 5":   func(e impl.Engine) impl.Engine { return do(e, "write 5") },
+	"EvForce":     func(e impl.Engine) impl.Engine { return do(e, "force") },
+	"EvFall":      func(e impl.Engine) impl.Engine { return do(e, "fall 8") },
+	"EvFall -1":   func(e impl.Engine) impl.Engine { return do(e, "fall -1") },
+	"EvRise":      func(e impl.Engine) impl.Engine { return do(e, "rise 99") },
+	"EvRise 1":    func(e impl.Engine) impl.Engine { return do(e, "rise 1") },
+	"EvRise -1":   func(e impl.Engine) impl.Engine { return do(e, "rise -1") },
+	"unknown":     func(e impl.Engine) impl.Engine { return impl.PlayDo(e, impl.Event{Kind: 10}) },
+	"PlayTrue":    func(impl.Engine) impl.Engine { return impl.Engine{Mem: impl.PlayTrue(eventsOf("own 1 2 3, done 1"))} },
 }
 
 func TestEnginesStayUnchanged(t *testing.T) {

@@ -330,6 +330,28 @@ func TestPlayDo(t *testing.T) {
 	checkCount(t, lost, 50)
 }
 
+// Promise 74 stands against promise 73 in valid engines that no events make: what the function of the kind returns is invalid there, and so is PlayDo.
+func TestPlayDoOfEnginesThatNoEventsMake(t *testing.T) {
+	behind := onDisk(t, 4, map[int]impl.Page{0: page(0, 1, 5, 0, 0)}, "put 1 0 0 5 7 0 0", "done 1 0 0 0 0 1 0", "put 2 0 1 0 8 0 0", "undo 1 1 0 0 0 0 1")
+	for _, c := range []struct {
+		name   string
+		engine impl.Engine
+		event  string
+	}{
+		{"a load that no rollback undoes", keptLoad(), "undo 2"},
+		{"a crash that leaves no space", safeAs(appended(puts(1, 75), rec(impl.RecDone, 1, 0, 0, 0, 0, 0, 0)), 75), "fall 0"},
+		{"a Next behind the chain", runFall(behind, 4), "rise 1"},
+	} {
+		got := do(c.engine, c.event)
+		if want, _ := doneBy(c.engine, event(c.event)); !validByBoth(c.engine) || !sameEngine(got, want) || impl.EngineOk(got) {
+			t.Errorf("%s: PlayDo is %v, want %v, of %v", c.name, got, want, c.engine)
+		}
+		if again := do(got, c.event); !sameEngine(again, impl.Engine{}) {
+			t.Errorf("%s: a second PlayDo is %v, of %v", c.name, again, got)
+		}
+	}
+}
+
 // Promise 75: PlayRun equals PlayDo of each event, from EngineNew on.
 func TestPlayRun(t *testing.T) {
 	t.Parallel()

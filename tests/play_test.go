@@ -27,23 +27,49 @@ func checkDo(t *testing.T, name string, e impl.Engine, v impl.Event) {
 	}
 }
 
-// The plays have what the other tests need: else these would check nothing.
+// engineKinds is what an engine is, of what tests of runs need.
+func engineKinds(e impl.Engine) map[string]bool {
+	open := impl.LogOpen(e.Log)
+	with := func(kind int) bool {
+		return slices.ContainsFunc(e.Log, func(r impl.Rec) bool { return r.Kind == kind })
+	}
+	loadIs := func(written bool) bool {
+		return slices.ContainsFunc([]int{0, 1, 2, 3, 4}, func(n int) bool { return loadedIn(e.Log, n) && (e.Disk[n].Lsn >= loadOf(e.Log, n)) == written })
+	}
+	return map[string]bool{
+		"no records": len(e.Log) == 0, "none open": len(open) == 0 && len(e.Log) > 0,
+		"one open": len(open) == 1, "two open": len(open) == 2, "three open": len(open) == 3, "crashed": e.Down, "crashed, three open": e.Down && len(open) == 3,
+		"all durable": e.Safe == len(e.Log) && len(open) > 0, "some durable": 0 < e.Safe && e.Safe < len(e.Log), "none durable": e.Safe == 0 && len(open) > 0,
+		"a load that is written": loadIs(true), "a load that is not written": loadIs(false),
+		"amid a recovery": e.Down && slices.ContainsFunc(open, func(tx int) bool { return e.Log[lastIn(e.Log, tx)-1].Kind == impl.RecUndo }),
+		"behind a commit": with(impl.RecDone), "behind a rollback": with(impl.RecEnd),
+	}
+}
+
+// countKinds counts what something is, and what it is not, without adding to that.
+func countKinds(seen map[string]int, kinds map[string]bool) {
+	for name, is := range kinds {
+		seen[name] += map[bool]int{true: 1}[is]
+	}
+}
+
+// checkKinds checks that there is enough of each kind: else other tests would check nothing.
+func checkKinds(t *testing.T, seen map[string]int, least int) {
+	t.Helper()
+	for name, count := range seen {
+		if count < least {
+			t.Errorf("only %d are of the kind %q", count, name)
+		}
+	}
+}
+
 func TestPlaysAreOfAllKinds(t *testing.T) {
 	seen := map[string]int{}
 	for p := range plays {
 		e := p.engine
-		open := impl.LogOpen(e.Log)
-		loadIs := func(written bool) bool {
-			return slices.ContainsFunc([]int{0, 1, 2, 3, 4}, func(n int) bool { return loadedIn(e.Log, n) && (e.Disk[n].Lsn >= loadOf(e.Log, n)) == written })
-		}
-		for name, is := range map[string]bool{
-			"no events": len(p.events) == 0, "40 events": len(p.events) == 40, "no records": len(e.Log) == 0, "none open": len(open) == 0 && len(e.Log) > 0,
-			"one open": len(open) == 1, "two open": len(open) == 2, "three open": len(open) == 3, "crashed": e.Down, "crashed, three open": e.Down && len(open) == 3,
-			"all durable": e.Safe == len(e.Log) && len(open) > 0, "some durable": 0 < e.Safe && e.Safe < len(e.Log), "none durable": e.Safe == 0 && len(open) > 0,
-			"a load that is written": loadIs(true), "a load that is not written": loadIs(false),
-			"amid a recovery":           e.Down && slices.ContainsFunc(open, func(tx int) bool { return e.Log[lastIn(e.Log, tx)-1].Kind == impl.RecUndo }),
-			"behind a commit":           slices.ContainsFunc(e.Log, func(r impl.Rec) bool { return r.Kind == impl.RecDone }),
-			"behind a rollback":         slices.ContainsFunc(e.Log, func(r impl.Rec) bool { return r.Kind == impl.RecEnd }),
+		countKinds(seen, engineKinds(e))
+		countKinds(seen, map[string]bool{
+			"no events": len(p.events) == 0, "40 events": len(p.events) == 40,
 			"recovered":                 !e.Down && has(p.events, 8),
 			"never crashed":             !has(p.events, 8),
 			"nothing done":              !has(p.events, 4),
@@ -51,20 +77,9 @@ func TestPlaysAreOfAllKinds(t *testing.T) {
 			"something committed":       !sameContents(wantTrue(p.events), newPages(nil)),
 			"something not committed":   !e.Down && !sameContents(wantTrue(p.events), e.Mem),
 			"ahead on disk":             !sameContents(wantTrue(p.events), e.Disk),
-		} {
-			if is {
-				seen[name]++
-			}
-		}
+		})
 	}
-	if len(seen) != 24 {
-		t.Errorf("the plays only are of the kinds %v", seen)
-	}
-	for name, count := range seen {
-		if count < 2 {
-			t.Errorf("only %d plays are of the kind %s", count, name)
-		}
-	}
+	checkKinds(t, seen, 2)
 }
 
 // The events of the plays have every kind, each with and without effect.
